@@ -1,0 +1,1 @@
+"""Weights that go together: the calls are in weightstogether.sets."""
