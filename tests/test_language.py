@@ -122,6 +122,8 @@ class PackageTest(unittest.TestCase):
                      if isinstance(node, ast.FunctionDef)}
         self.assertEqual(arguments["together"], ["n", "m"])
         self.assertEqual(arguments["increasing"], ["n", "f"])
+        self.assertEqual(arguments["mean"], ["n", "m", "f"])
+        self.assertEqual(arguments["goes"], ["n", "m", "f", "g"])
 
 
 class RulesTest(unittest.TestCase):

@@ -3,6 +3,7 @@
 MOST_THINGS = 5
 MOST_WEIGHT = 1000
 NOT_AS_TOLD = -22
+ALL_WEIGHTS_0 = -6
 
 
 def are_weights(n, row):
@@ -12,6 +13,18 @@ def are_weights(n, row):
     if len(row) != 1 << n:
         return False
     return all([weight <= MOST_WEIGHT for weight in row])
+
+
+def weighed(m, row):
+    return sum([weight * number for weight, number in zip(m, row)])
+
+
+def greatest_in_common(one, other):
+    while other > 0:
+        rest = one % other
+        one = other
+        other = rest
+    return one
 
 
 def together(n, m):
@@ -33,3 +46,28 @@ def increasing(n, f):
             if f[lower | 1 << thing] < f[lower]:
                 return [0]
     return [1]
+
+
+def mean(n, m, f):
+    if not are_weights(n, m) or not are_weights(n, f):
+        return [NOT_AS_TOLD]
+    all_weights = sum(m)
+    if all_weights == 0:
+        return [ALL_WEIGHTS_0]
+    all_weighed = weighed(m, f)
+    # Of 0 and all weights these are all that's in common, so that a mean of 0 comes out as 0 1.
+    common = greatest_in_common(all_weighed, all_weights)
+    return [0, all_weighed // common, all_weights // common]
+
+
+def goes(n, m, f, g):
+    if not are_weights(n, m) or not are_weights(n, f) or not are_weights(n, g):
+        return [NOT_AS_TOLD]
+    both = [one * other for one, other in zip(f, g)]
+    at_once = sum(m) * weighed(m, both)
+    apart = weighed(m, f) * weighed(m, g)
+    if at_once > apart:
+        return [2, at_once, apart]
+    if at_once == apart:
+        return [1, at_once, apart]
+    return [0, at_once, apart]

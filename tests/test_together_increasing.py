@@ -3,29 +3,8 @@
 import itertools
 import unittest
 
+from rows import alone, made_thing_by_thing, members, mixed_rows, small_rows, weight_by_members
 from weightstogether.sets import increasing, together
-
-GREATEST = 4294967295
-REFUSAL = [-22]
-CALLS = (together, increasing)
-
-
-class Untouchable(list):
-    """A list that may be read only: a change, even one that is undone again, is an error."""
-
-    def refuse(self, *arguments, **keywords):
-        raise AssertionError("what was handed in was changed")
-
-    append = clear = extend = insert = pop = remove = reverse = sort = refuse
-    __setitem__ = __delitem__ = __iadd__ = __imul__ = refuse
-
-
-def members(number, n):
-    return frozenset(v for v in range(n) if (number // 2 ** v) % 2)
-
-
-def weight_by_members(n, row):
-    return {members(number, n): weight for number, weight in enumerate(row)}
 
 
 def together_by_members(n, row):
@@ -43,36 +22,6 @@ def increasing_by_members(n, row):
         if lower < upper and len(upper) == len(lower) + 1 and weight[upper] < weight[lower]:
             return [0]
     return [1]
-
-
-def mixed_rows(n, how_many, bound):
-    """Rows that look mixed but are the same each time."""
-    state = 12345 + n
-    for _ in range(how_many):
-        row = []
-        for _ in range(2 ** n):
-            state = (state * 1103515245 + 12345) % 2 ** 31
-            row.append((state >> 16) % bound)
-        yield row
-
-
-def made_thing_by_thing(pairs):
-    row = []
-    for number in range(2 ** len(pairs)):
-        weight = 1
-        for v, (inside, outside) in enumerate(pairs):
-            weight *= inside if v in members(number, len(pairs)) else outside
-        row.append(weight)
-    return row
-
-
-def small_rows():
-    for row in itertools.product((0, 1, 2, 999, 1000), repeat=2):
-        yield 1, list(row)
-    for row in itertools.product(range(5), repeat=4):
-        yield 2, list(row)
-    for row in itertools.product(range(3), repeat=8):
-        yield 3, list(row)
 
 
 class TogetherTest(unittest.TestCase):
@@ -117,10 +66,8 @@ class TogetherTest(unittest.TestCase):
             with self.subTest(n=n):
                 for weight in (0, 1, 1000):
                     self.assertEqual(together(n, [weight] * 2 ** n), [1])
-                for alone in range(2 ** n):
-                    row = [0] * 2 ** n
-                    row[alone] = 1000
-                    self.assertEqual(together(n, row), [1])
+                for number in range(2 ** n):
+                    self.assertEqual(together(n, alone(n, number, 1000)), [1])
 
     def test_as_great_as_1000(self):
         self.assertEqual(together(2, [1000, 1000, 1000, 999]), [0, 1, 2])
@@ -186,10 +133,8 @@ class IncreasingTest(unittest.TestCase):
 
     def test_one_set_alone(self):
         for n in range(1, 6):
-            for alone in range(2 ** n):
-                row = [0] * 2 ** n
-                row[alone] = 1
-                self.assertEqual(increasing(n, row), [1 if alone == 2 ** n - 1 else 0])
+            for number in range(2 ** n):
+                self.assertEqual(increasing(n, alone(n, number, 1)), [1 if number == 2 ** n - 1 else 0])
 
     def test_as_great_as_1000(self):
         self.assertEqual(increasing(1, [999, 1000]), [1])
@@ -204,90 +149,6 @@ class IncreasingTest(unittest.TestCase):
         for n in (4, 5):
             for row in mixed_rows(n, 20, 1001):
                 self.assertEqual(increasing(n, row), increasing_by_members(n, row), (n, row))
-
-
-class RefusalTest(unittest.TestCase):
-    def assert_refused(self, n, row):
-        for call in CALLS:
-            with self.subTest(call=call.__name__, n=n, row=row):
-                self.assertEqual(call(n, row), REFUSAL)
-
-    def test_n_is_not_1_to_5(self):
-        for n in (0, 6, 7, 31, 32, 33, 64, 1000, 2147483648, GREATEST - 1, GREATEST):
-            for length in (0, 1, 2, 32, 40):
-                self.assert_refused(n, [1] * length)
-
-    def test_six_things_are_refused_for_themselves(self):
-        # Longer than a list may be, but so the row fits n, and n alone is wrong.
-        self.assert_refused(6, [1] * 64)
-
-    def test_row_has_not_one_number_for_each_set(self):
-        for n in range(1, 6):
-            for length in range(41):
-                if length != 2 ** n:
-                    self.assert_refused(n, [0] * length)
-
-    def test_weight_is_above_1000(self):
-        for n in range(1, 6):
-            for place in range(2 ** n):
-                for weight in (1001, 65536, GREATEST):
-                    row = [1] * 2 ** n
-                    row[place] = weight
-                    self.assert_refused(n, row)
-
-    def test_several_at_once_are_one_number(self):
-        self.assert_refused(0, [])
-        self.assert_refused(GREATEST, [GREATEST] * 40)
-        self.assert_refused(2, [GREATEST] * 3)
-
-    def test_bounds_themselves_are_taken(self):
-        for call in CALLS:
-            self.assertEqual(call(1, [0, 1000]), [1])
-            self.assertEqual(call(5, [0] * 31 + [1000]), [1])
-
-
-class InterfaceTest(unittest.TestCase):
-    def samples(self):
-        yield 2, [0, 5, 3, 8]
-        yield 2, [1, 1, 1, 0]
-        yield 1, [1000, 1000]
-        yield 5, [7] * 32
-        yield 2, [1, 1, 1001, 1]
-        yield 3, [1, 2]
-        yield GREATEST, []
-
-    def test_arguments_have_the_names_of_the_interface(self):
-        self.assertEqual(together(n=2, m=[0, 1, 1, 0]), [0, 1, 2])
-        self.assertEqual(increasing(n=1, f=[1, 0]), [0])
-
-    def test_answers_are_lists_of_whole_numbers(self):
-        for call in CALLS:
-            for n, row in self.samples():
-                answer = call(n, row)
-                self.assertIs(type(answer), list)
-                self.assertEqual([type(number) for number in answer], [int] * len(answer))
-
-    def test_what_is_handed_in_is_not_changed(self):
-        for call in CALLS:
-            for n, row in self.samples():
-                handed = Untouchable(row)
-                self.assertEqual(call(n, handed), call(n, row))
-                self.assertEqual(list(handed), row)
-
-    def test_nothing_is_kept(self):
-        for call in CALLS:
-            samples = list(self.samples())
-            answers = [call(n, list(row)) for n, row in samples]
-            for n, row in samples:
-                call(n, list(row)).append(99)
-            again = [call(n, list(row)) for n, row in reversed(samples)]
-            self.assertEqual(again[::-1], answers)
-
-    def test_a_row_changed_between_calls_is_read_anew(self):
-        row = [1, 1, 1, 1]
-        self.assertEqual((together(2, row), increasing(2, row)), ([1], [1]))
-        row[3] = 0
-        self.assertEqual((together(2, row), increasing(2, row)), ([0, 1, 2], [0]))
 
 
 if __name__ == "__main__":

@@ -1,0 +1,132 @@
+"""What is asked of every call: what it refuses, and that it neither changes nor keeps anything."""
+
+import unittest
+
+from rows import GREATEST, Untouchable
+from weightstogether.sets import goes, increasing, mean, together
+
+NOT_AS_TOLD = [-22]
+# The arguments that are weights, in their order, behind n.
+WEIGHTS = {together: "m", increasing: "f", mean: "mf", goes: "mfg"}
+WRONG_NUMBERS_OF_THINGS = (0, 6, 7, 31, 32, 33, 64, 1000, 2147483648, GREATEST - 1, GREATEST)
+
+
+def with_weights(call, row):
+    """What is handed in behind n: the same weights wherever weights are asked for."""
+    return {name: list(row) for name in WEIGHTS[call]}
+
+
+class RefusalTest(unittest.TestCase):
+    def assert_refused(self, call, n, arguments):
+        answer = call(n, **arguments)
+        if answer != NOT_AS_TOLD:
+            self.fail(f"{call.__name__} answers {answer} to {n}, {arguments}")
+
+    def assert_row_refused(self, n, wrong):
+        # All weights 0 as well, of which mean has a refusal of its own that is told later.
+        for call, names in WEIGHTS.items():
+            for name in names:
+                for other in (1, 0):
+                    self.assert_refused(call, n, with_weights(call, [other] * 2 ** n) | {name: wrong})
+
+    def test_n_is_not_1_to_5(self):
+        for call in WEIGHTS:
+            for n in WRONG_NUMBERS_OF_THINGS:
+                for length in (0, 1, 2, 32, 40):
+                    for weight in (0, 1):
+                        self.assert_refused(call, n, with_weights(call, [weight] * length))
+
+    def test_six_things_are_refused_for_themselves(self):
+        # Longer than a list may be, but so the row fits n, and n alone is wrong.
+        for call in WEIGHTS:
+            self.assert_refused(call, 6, with_weights(call, [1] * 64))
+
+    def test_row_has_not_one_number_for_each_set(self):
+        for n in range(1, 6):
+            for length in range(41):
+                if length != 2 ** n:
+                    self.assert_row_refused(n, [0] * length)
+                    self.assert_row_refused(n, [1] * length)
+
+    def test_weight_is_above_1000(self):
+        for n in range(1, 6):
+            for place in range(2 ** n):
+                for weight in (1001, 65536, GREATEST):
+                    row = [1] * 2 ** n
+                    row[place] = weight
+                    self.assert_row_refused(n, row)
+
+    def test_several_at_once_are_one_number(self):
+        for call in WEIGHTS:
+            self.assert_refused(call, 0, with_weights(call, []))
+            self.assert_refused(call, GREATEST, with_weights(call, [GREATEST] * 40))
+            self.assert_refused(call, 2, with_weights(call, [GREATEST] * 3))
+
+    def test_bounds_themselves_are_taken(self):
+        for call in WEIGHTS:
+            for n in (1, 5):
+                row = [0] * (2 ** n - 1) + [1000]
+                self.assertGreaterEqual(call(n, **with_weights(call, row))[0], 0)
+
+
+class InterfaceTest(unittest.TestCase):
+    def samples(self, call):
+        yield 2, with_weights(call, [0, 5, 3, 8])
+        yield 2, with_weights(call, [1, 1, 1, 0])
+        yield 1, with_weights(call, [1000, 1000])
+        yield 5, with_weights(call, [7] * 32)
+        yield 3, with_weights(call, [0] * 8)
+        yield 2, with_weights(call, [1, 1, 1001, 1])
+        yield 3, with_weights(call, [1, 2])
+        yield GREATEST, with_weights(call, [])
+
+    def test_arguments_may_be_told_by_their_names(self):
+        for call in WEIGHTS:
+            for n, arguments in self.samples(call):
+                self.assertEqual(call(n=n, **arguments), call(n, *arguments.values()))
+
+    def test_answers_are_lists_of_whole_numbers(self):
+        for call in WEIGHTS:
+            for n, arguments in self.samples(call):
+                answer = call(n, **arguments)
+                self.assertIs(type(answer), list)
+                self.assertEqual([type(number) for number in answer], [int] * len(answer))
+
+    def test_no_number_is_below_0_but_a_refusal_alone(self):
+        for call in WEIGHTS:
+            for n, arguments in self.samples(call):
+                answer = call(n, **arguments)
+                self.assertTrue(len(answer) == 1 or min(answer) >= 0, answer)
+
+    def test_what_is_handed_in_is_not_changed(self):
+        for call in WEIGHTS:
+            for n, arguments in self.samples(call):
+                handed = {name: Untouchable(row) for name, row in arguments.items()}
+                self.assertEqual(call(n, **handed), call(n, **arguments))
+                self.assertEqual({name: list(row) for name, row in handed.items()}, arguments)
+
+    def test_one_list_may_be_handed_in_for_several(self):
+        for call, names in WEIGHTS.items():
+            for n, arguments in self.samples(call):
+                row = Untouchable(arguments[names[0]])
+                self.assertEqual(call(n, **(arguments | {name: row for name in names})), call(n, **arguments))
+
+    def test_nothing_is_kept(self):
+        for call in WEIGHTS:
+            answers = [call(n, **arguments) for n, arguments in self.samples(call)]
+            for n, arguments in self.samples(call):
+                call(n, **arguments).append(99)
+            again = [call(n, **arguments) for n, arguments in reversed(list(self.samples(call)))]
+            self.assertEqual(again[::-1], answers)
+
+    def test_a_row_changed_between_calls_is_read_anew(self):
+        row = [1, 1, 1, 1]
+        self.assertEqual((together(2, row), increasing(2, row)), ([1], [1]))
+        self.assertEqual((mean(2, [1, 1, 1, 1], row), goes(2, [1, 1, 1, 1], row, row)), ([0, 1, 1], [1, 16, 16]))
+        row[3] = 0
+        self.assertEqual((together(2, row), increasing(2, row)), ([0, 1, 2], [0]))
+        self.assertEqual((mean(2, [1, 1, 1, 1], row), goes(2, [1, 1, 1, 1], row, row)), ([0, 3, 4], [2, 12, 9]))
+
+
+if __name__ == "__main__":
+    unittest.main()
