@@ -3,17 +3,19 @@
 import unittest
 
 from rows import GREATEST, Untouchable
-from weightstogether.sets import goes, increasing, mean, together
+from weightstogether.sets import goes, increasing, mean, over, together, total
 
 NOT_AS_TOLD = [-22]
 # The arguments that are weights, in their order, behind n.
-WEIGHTS = {together: "m", increasing: "f", mean: "mf", goes: "mfg"}
+WEIGHTS = {together: "m", increasing: "f", mean: "mf", goes: "mfg", over: "mk", total: "m"}
+# What else is handed in, behind the weights, and is right for each n.
+OTHERS = {total: {"x": [0, 1]}}
 WRONG_NUMBERS_OF_THINGS = (0, 6, 7, 31, 32, 33, 64, 1000, 2147483648, GREATEST - 1, GREATEST)
 
 
 def with_weights(call, row):
-    """What is handed in behind n: the same weights wherever weights are asked for."""
-    return {name: list(row) for name in WEIGHTS[call]}
+    """What is handed in behind n: the same weights wherever weights are asked for, then what else is."""
+    return {name: list(row) for name in WEIGHTS[call]} | OTHERS.get(call, {})
 
 
 class RefusalTest(unittest.TestCase):

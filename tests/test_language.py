@@ -124,6 +124,8 @@ class PackageTest(unittest.TestCase):
         self.assertEqual(arguments["increasing"], ["n", "f"])
         self.assertEqual(arguments["mean"], ["n", "m", "f"])
         self.assertEqual(arguments["goes"], ["n", "m", "f", "g"])
+        self.assertEqual(arguments["over"], ["n", "m", "k"])
+        self.assertEqual(arguments["total"], ["n", "m", "x"])
 
 
 class RulesTest(unittest.TestCase):

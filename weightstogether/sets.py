@@ -15,6 +15,16 @@ def are_weights(n, row):
     return all([weight <= MOST_WEIGHT for weight in row])
 
 
+def is_family(how_many_sets, x):
+    # Rising and each once are one thing: each number is above the one ahead of it.
+    least = 0
+    for number in x:
+        if number < least or number >= how_many_sets:
+            return False
+        least = number + 1
+    return True
+
+
 def weighed(m, row):
     return sum([weight * number for weight, number in zip(m, row)])
 
@@ -27,14 +37,19 @@ def greatest_in_common(one, other):
     return one
 
 
+def held_above(m, k):
+    for first in range(len(m)):
+        for second in range(len(m)):
+            if m[first] * k[second] > m[first | second] * k[first & second]:
+                return [0, first, second]
+    return [1]
+
+
 def together(n, m):
     if not are_weights(n, m):
         return [NOT_AS_TOLD]
-    for first in range(len(m)):
-        for second in range(len(m)):
-            if m[first] * m[second] > m[first | second] * m[first & second]:
-                return [0, first, second]
-    return [1]
+    # Weights go together just if they are above themselves.
+    return held_above(m, m)
 
 
 def increasing(n, f):
@@ -71,3 +86,15 @@ def goes(n, m, f, g):
     if at_once == apart:
         return [1, at_once, apart]
     return [0, at_once, apart]
+
+
+def over(n, m, k):
+    if not are_weights(n, m) or not are_weights(n, k):
+        return [NOT_AS_TOLD]
+    return held_above(m, k)
+
+
+def total(n, m, x):
+    if not are_weights(n, m) or not is_family(len(m), x):
+        return [NOT_AS_TOLD]
+    return [sum([m[number] for number in x])]
