@@ -3,19 +3,26 @@
 import unittest
 
 from rows import GREATEST, Untouchable
-from weightstogether.sets import goes, increasing, mean, over, together, total
+from weightstogether.sets import given_of, goes, increasing, mean, over, product, together, total
 
 NOT_AS_TOLD = [-22]
-# The arguments that are weights, in their order, behind n.
-WEIGHTS = {together: "m", increasing: "f", mean: "mf", goes: "mfg", over: "mk", total: "m"}
-# What else is handed in, behind the weights, and is right for each n.
-OTHERS = {total: {"x": [0, 1]}}
+# The arguments in their order, each a letter.
+ARGUMENTS = {together: "nm", increasing: "nf", mean: "nmf", goes: "nmfg", over: "nmk", total: "nmx", product: "p",
+             given_of: "nivm"}
+# Those of them that are weights.
+WEIGHTS = {call: [name for name in names if name in "mfgk"] for call, names in ARGUMENTS.items() if "n" in names}
+# What else is handed in beside n and is right for each n.
+OTHERS = {total: {"x": [0, 1]}, given_of: {"i": 0, "v": 1}}
 WRONG_NUMBERS_OF_THINGS = (0, 6, 7, 31, 32, 33, 64, 1000, 2147483648, GREATEST - 1, GREATEST)
 
 
 def with_weights(call, row):
-    """What is handed in behind n: the same weights wherever weights are asked for, then what else is."""
+    """What is handed in beside n: the same weights wherever weights are asked for, and what else is."""
     return {name: list(row) for name in WEIGHTS[call]} | OTHERS.get(call, {})
+
+
+def untouchable(arguments):
+    return {name: Untouchable(value) if isinstance(value, list) else value for name, value in arguments.items()}
 
 
 class RefusalTest(unittest.TestCase):
@@ -73,52 +80,58 @@ class RefusalTest(unittest.TestCase):
 
 class InterfaceTest(unittest.TestCase):
     def samples(self, call):
-        yield 2, with_weights(call, [0, 5, 3, 8])
-        yield 2, with_weights(call, [1, 1, 1, 0])
-        yield 1, with_weights(call, [1000, 1000])
-        yield 5, with_weights(call, [7] * 32)
-        yield 3, with_weights(call, [0] * 8)
-        yield 2, with_weights(call, [1, 1, 1001, 1])
-        yield 3, with_weights(call, [1, 2])
-        yield GREATEST, with_weights(call, [])
+        if call is product:
+            for p in ([3, 2], [2, 3, 5, 7], [0, 1, 1, 0, 4, 4], [10] * 10, [0] * 8, [1, 11], [1], []):
+                yield {"p": p}
+            return
+        for n, row in ((2, [0, 5, 3, 8]), (2, [1, 1, 1, 0]), (1, [1000, 1000]), (5, [7] * 32), (3, [0] * 8),
+                       (2, [1, 1, 1001, 1]), (3, [1, 2]), (GREATEST, [])):
+            yield {"n": n} | with_weights(call, row)
+
+    def every_sample(self):
+        for call in ARGUMENTS:
+            for arguments in self.samples(call):
+                yield call, arguments
 
     def test_arguments_may_be_told_by_their_names(self):
-        for call in WEIGHTS:
-            for n, arguments in self.samples(call):
-                self.assertEqual(call(n=n, **arguments), call(n, *arguments.values()))
+        for call, arguments in self.every_sample():
+            self.assertEqual(call(**arguments), call(*[arguments[name] for name in ARGUMENTS[call]]))
 
     def test_answers_are_lists_of_whole_numbers(self):
-        for call in WEIGHTS:
-            for n, arguments in self.samples(call):
-                answer = call(n, **arguments)
-                self.assertIs(type(answer), list)
-                self.assertEqual([type(number) for number in answer], [int] * len(answer))
+        for call, arguments in self.every_sample():
+            answer = call(**arguments)
+            self.assertIs(type(answer), list)
+            self.assertEqual([type(number) for number in answer], [int] * len(answer))
 
     def test_no_number_is_below_0_but_a_refusal_alone(self):
-        for call in WEIGHTS:
-            for n, arguments in self.samples(call):
-                answer = call(n, **arguments)
-                self.assertTrue(len(answer) == 1 or min(answer) >= 0, answer)
+        for call, arguments in self.every_sample():
+            answer = call(**arguments)
+            self.assertTrue(len(answer) == 1 or min(answer) >= 0, answer)
 
     def test_what_is_handed_in_is_not_changed(self):
-        for call in WEIGHTS:
-            for n, arguments in self.samples(call):
-                handed = {name: Untouchable(row) for name, row in arguments.items()}
-                self.assertEqual(call(n, **handed), call(n, **arguments))
-                self.assertEqual({name: list(row) for name, row in handed.items()}, arguments)
+        for call, arguments in self.every_sample():
+            handed = untouchable(arguments)
+            self.assertEqual(call(**handed), call(**arguments))
+            self.assertEqual(handed, arguments)
+
+    def test_what_is_given_back_is_not_what_was_handed_in(self):
+        for call, arguments in self.every_sample():
+            handed = untouchable(arguments)
+            answer = call(**handed)
+            self.assertFalse(any(answer is value for value in handed.values()))
 
     def test_one_list_may_be_handed_in_for_several(self):
         for call, names in WEIGHTS.items():
-            for n, arguments in self.samples(call):
+            for arguments in self.samples(call):
                 row = Untouchable(arguments[names[0]])
-                self.assertEqual(call(n, **(arguments | {name: row for name in names})), call(n, **arguments))
+                self.assertEqual(call(**(arguments | {name: row for name in names})), call(**arguments))
 
     def test_nothing_is_kept(self):
-        for call in WEIGHTS:
-            answers = [call(n, **arguments) for n, arguments in self.samples(call)]
-            for n, arguments in self.samples(call):
-                call(n, **arguments).append(99)
-            again = [call(n, **arguments) for n, arguments in reversed(list(self.samples(call)))]
+        for call in ARGUMENTS:
+            answers = [call(**arguments) for arguments in self.samples(call)]
+            for arguments in self.samples(call):
+                call(**arguments).append(99)
+            again = [call(**arguments) for arguments in reversed(list(self.samples(call)))]
             self.assertEqual(again[::-1], answers)
 
     def test_a_row_changed_between_calls_is_read_anew(self):

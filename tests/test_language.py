@@ -126,6 +126,8 @@ class PackageTest(unittest.TestCase):
         self.assertEqual(arguments["goes"], ["n", "m", "f", "g"])
         self.assertEqual(arguments["over"], ["n", "m", "k"])
         self.assertEqual(arguments["total"], ["n", "m", "x"])
+        self.assertEqual(arguments["product"], ["p"])
+        self.assertEqual(arguments["given_of"], ["n", "i", "v", "m"])
 
 
 class RulesTest(unittest.TestCase):

@@ -2,7 +2,9 @@
 
 MOST_THINGS = 5
 MOST_WEIGHT = 1000
+MOST_A_THING_COUNTS = 10
 NOT_AS_TOLD = -22
+NO_SUCH_THING = -2
 ALL_WEIGHTS_0 = -6
 
 
@@ -23,6 +25,12 @@ def is_family(how_many_sets, x):
             return False
         least = number + 1
     return True
+
+
+def are_pairs(p):
+    if len(p) < 2 or len(p) > 2 * MOST_THINGS or len(p) % 2 != 0:
+        return False
+    return all([number <= MOST_A_THING_COUNTS for number in p])
 
 
 def weighed(m, row):
@@ -98,3 +106,27 @@ def total(n, m, x):
     if not are_weights(n, m) or not is_family(len(m), x):
         return [NOT_AS_TOLD]
     return [sum([m[number] for number in x])]
+
+
+def product(p):
+    if not are_pairs(p):
+        return [NOT_AS_TOLD]
+    weights = [1]
+    for place in range(0, len(p), 2):
+        with_it = [weight * p[place] for weight in weights]
+        without_it = [weight * p[place + 1] for weight in weights]
+        # A thing counts more than all things ahead of it together, so the sets that have it come last.
+        weights = without_it + with_it
+    return [len(weights)] + weights
+
+
+def given_of(n, i, v, m):
+    if not are_weights(n, m):
+        return [NOT_AS_TOLD]
+    # Held to its bounds ahead of v, which is told later, and before a shift by it is made.
+    if i >= n:
+        return [NO_SUCH_THING]
+    if v > 1:
+        return [NOT_AS_TOLD]
+    weights = [weight if (number >> i) & 1 == v else 0 for number, weight in enumerate(m)]
+    return [len(weights)] + weights
