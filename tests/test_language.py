@@ -128,6 +128,7 @@ class PackageTest(unittest.TestCase):
         self.assertEqual(arguments["total"], ["n", "m", "x"])
         self.assertEqual(arguments["product"], ["p"])
         self.assertEqual(arguments["given_of"], ["n", "i", "v", "m"])
+        self.assertEqual(arguments["forgot"], ["n", "i", "m"])
 
 
 class RulesTest(unittest.TestCase):

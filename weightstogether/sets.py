@@ -6,6 +6,7 @@ MOST_A_THING_COUNTS = 10
 NOT_AS_TOLD = -22
 NO_SUCH_THING = -2
 ALL_WEIGHTS_0 = -6
+NO_THING_LEFT = -33
 
 
 def are_weights(n, row):
@@ -129,4 +130,17 @@ def given_of(n, i, v, m):
     if v > 1:
         return [NOT_AS_TOLD]
     weights = [weight if (number >> i) & 1 == v else 0 for number, weight in enumerate(m)]
+    return [len(weights)] + weights
+
+
+def forgot(n, i, m):
+    if not are_weights(n, m):
+        return [NOT_AS_TOLD]
+    if i >= n:
+        return [NO_SUCH_THING]
+    # Told last, so that of one thing it is answered only where the thing to be forgotten is that one.
+    if n == 1:
+        return [NO_THING_LEFT]
+    # With the things behind i numbered one less, the sets without it stay in the order that they had.
+    weights = [m[number] + m[number | 1 << i] for number in range(len(m)) if (number >> i) & 1 == 0]
     return [len(weights)] + weights
